@@ -115,18 +115,22 @@ func endAlone(g *impl.World, id int, why impl.Val) []int {
 	return next
 }
 
-// fallenByHand is what the document says of FallEnd, worked out apart from the program: who falls next stands in a line.
+// fallByHand ends a run, whatever the world is, with all that fall: who falls next stands in a line.
+func fallByHand(g *impl.World, id int, why impl.Val) {
+	for line := []int{id}; len(line) > 0; {
+		next := endAlone(g, line[0], why)
+		line = append(line[1:], next...)
+	}
+}
+
+// fallenByHand is what the document says of FallEnd, worked out apart from the program.
 func fallenByHand(w impl.World, id int, why impl.Val) impl.World {
 	if !okWorldByHand(w) || !okValByHand(why) || w.Sent >= 9900 {
 		return impl.World{}
 	}
 	g := keptWorld(w)
-	if !within(id, 1, len(g.Runs)) {
-		return g
-	}
-	for line := []int{id}; len(line) > 0; {
-		next := endAlone(&g, line[0], why)
-		line = append(line[1:], next...)
+	if within(id, 1, len(g.Runs)) {
+		fallByHand(&g, id, why)
 	}
 	return g
 }
