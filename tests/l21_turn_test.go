@@ -410,15 +410,22 @@ func (d *dice) happen(t *testing.T, w impl.World) impl.World {
 	return impl.FallEnd(w, 1+d.below(6), d.val())
 }
 
+// firstWorld is the world with which plays by safe steps begin.
+func firstWorld(t *testing.T, code []impl.Op) impl.World {
+	t.Helper()
+	w, ok := impl.WorldNew(code)
+	if !ok {
+		t.Fatalf("WorldNew of %q is false", textByHand(code))
+	}
+	return w
+}
+
 // played calls a function of each world that comes of plays.
 func played(t *testing.T, state uint64, codes, events int, look func(w impl.World)) {
 	t.Helper()
 	d := &dice{state: state}
 	for _, code := range playCodes(t, d, codes) {
-		w, ok := impl.WorldNew(code)
-		if !ok {
-			t.Fatalf("WorldNew of %q is false", textByHand(code))
-		}
+		w := firstWorld(t, code)
 		for range events {
 			look(w)
 			w = d.happen(t, w)
@@ -1538,7 +1545,10 @@ func isNoTurn(w impl.World) bool {
 	return isNoWorld(impl.TurnStep(w)) && isNoWorld(impl.TurnDo(w)) && isNoWorld(impl.TurnTick(w))
 }
 
-func TestP65AndP75OfAWorldThatIsNotOk(t *testing.T) {
+// spoiledDesks are desks that are not ok, each by one thing, and no world at all.
+func spoiledDesks(t *testing.T) []impl.World {
+	t.Helper()
+	worlds := []impl.World{{}}
 	for i, spoiled := range []func(*impl.World){
 		func(w *impl.World) { w.Now = 301 },
 		func(w *impl.World) { w.Now = -1 },
@@ -1566,7 +1576,17 @@ func TestP65AndP75OfAWorldThatIsNotOk(t *testing.T) {
 	} {
 		w := keptWorld(desk(t, "send 1 1", "grgt", "1-2 4>1"))
 		spoiled(&w)
-		if okWorldByHand(w) || !isNoTurn(w) {
+		if okWorldByHand(w) {
+			t.Fatalf("by hand spoiled %d is ok", i)
+		}
+		worlds = append(worlds, w)
+	}
+	return worlds
+}
+
+func TestP65AndP75OfAWorldThatIsNotOk(t *testing.T) {
+	for i, w := range spoiledDesks(t) {
+		if !isNoTurn(w) {
 			t.Errorf("spoiled %d: %+v, %+v, %+v", i, impl.TurnStep(w), impl.TurnDo(w), impl.TurnTick(w))
 		}
 		for id := -1; id <= 9; id++ {
@@ -1574,9 +1594,6 @@ func TestP65AndP75OfAWorldThatIsNotOk(t *testing.T) {
 				t.Errorf("spoiled %d: TurnWhen of %d is %d", i, id, when)
 			}
 		}
-	}
-	if !isNoTurn(impl.World{}) || impl.TurnWhen(impl.World{}, 0) != 0 || impl.TurnWhen(impl.World{}, 1) != 0 {
-		t.Error("of no world")
 	}
 }
 
@@ -1661,19 +1678,52 @@ func TestP66WhatIsHandedInIsNotWrittenInto(t *testing.T) {
 	}
 }
 
+// mustBeApart asks that none of these answers shares memory with another one.
+func mustBeApart(t *testing.T, w impl.World, answers []impl.World) {
+	t.Helper()
+	var kept []impl.World
+	for _, x := range answers {
+		kept = append(kept, keptWorld(x))
+	}
+	for i, x := range answers {
+		spoilWorld(x)
+		for j := i + 1; j < len(answers); j++ {
+			if !sameWorld(answers[j], kept[j]) {
+				t.Fatalf("answers %d and %d of %+v share memory", i, j, w)
+			}
+		}
+	}
+}
+
 func TestP66AnswersShareNoMemoryWithEachOther(t *testing.T) {
 	for _, w := range throwWorlds(t, 661, 200) {
-		answers := turnsOf(w)
-		var kept []impl.World
-		for _, x := range answers {
-			kept = append(kept, keptWorld(x))
-		}
-		for i, x := range answers {
-			spoilWorld(x)
-			for j := i + 1; j < len(answers); j++ {
-				if !sameWorld(answers[j], kept[j]) {
-					t.Fatalf("answers %d and %d of %+v share memory", i, j, w)
-				}
+		mustBeApart(t, w, turnsOf(w))
+	}
+}
+
+// sharingDesk is a desk whose runs have lists that share their memory, whatever run they are of, and that with these.
+func sharingDesk(t *testing.T, step string, ids []int, vals []impl.Val) impl.World {
+	t.Helper()
+	w := desk(t, step, "gggr", "")
+	for i := range 3 {
+		r := &w.Runs[i]
+		r.Slots, r.Mail, r.Links, r.Watched = vals, vals[:3], ids[i+1:i+3], ids[i+1:i+3]
+	}
+	w.Queue, w.Sent, w.Now = ids[:3], w.Sent+9, stageNow
+	mustBeWorld(t, "lists that share memory", w)
+	return w
+}
+
+// mustShareNone asks that no two lists of one answer share memory.
+func mustShareNone(t *testing.T, what string, answer func() impl.World) {
+	t.Helper()
+	many, _ := listsOf(answer())
+	for i := range many {
+		spoils, same := listsOf(answer())
+		spoils[i]()
+		for j, is := range same {
+			if i != j && !is() {
+				t.Errorf("%s: lists %d and %d of the answer share memory", what, i, j)
 			}
 		}
 	}
@@ -1684,25 +1734,10 @@ func TestP66ListsOfOneAnswerShareNoMemory(t *testing.T) {
 	ids := []int{1, 2, 3, 1, 2}
 	vals := []impl.Val{run(2), run(3), run(2), num(4)}
 	for _, step := range []string{"set 1 n1", "add 3 3", "add 1 3", "self 2", "begin 1 6", "send 0 3", "take 1 3", "take 1 2", "after 1 1 6 n1", "go 6", "link 0", "watch 0", "watch 1", "trap n1", "end 3"} {
-		w := desk(t, step, "gggr", "")
-		for i := range 3 {
-			r := &w.Runs[i]
-			r.Slots, r.Mail, r.Links, r.Watched = vals, vals[:3], ids[i+1:i+3], ids[i+1:i+3]
-		}
-		w.Queue, w.Sent, w.Now = ids[:3], w.Sent+9, stageNow
-		mustBeWorld(t, "lists that share memory", w)
-		for what, answer := range map[string]func(impl.World) impl.World{"TurnStep": impl.TurnStep, "TurnDo": impl.TurnDo, "TurnTick": impl.TurnTick} {
-			many, _ := listsOf(answer(w))
-			for i := range many {
-				spoils, same := listsOf(answer(w))
-				spoils[i]()
-				for j, is := range same {
-					if i != j && !is() {
-						t.Errorf("%s, %s: lists %d and %d of the answer share memory", step, what, i, j)
-					}
-				}
-			}
-		}
+		w := sharingDesk(t, step, ids, vals)
+		mustShareNone(t, step+", TurnStep", func() impl.World { return impl.TurnStep(w) })
+		mustShareNone(t, step+", TurnDo", func() impl.World { return impl.TurnDo(w) })
+		mustShareNone(t, step+", TurnTick", func() impl.World { return impl.TurnTick(w) })
 		checkStep(t, w)
 		checkTurn(t, w)
 		checkTick(t, w)
